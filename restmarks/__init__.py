@@ -1,0 +1,1 @@
+"""Marks through a graph of places and channels."""
