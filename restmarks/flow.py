@@ -23,13 +23,18 @@ class Place:
 
 
 class Channel:
-    """A channel: the place it goes to, what is on it, and what that place remembers of it."""
+    """A channel: its number, the place it goes to, what is on it, and what that place remembers of it.
 
-    def __init__(self, target):
+    rested stays True once that it rests was taken; late is how many came late by it."""
+
+    def __init__(self, number, target):
+        self.number = number
         self.target = target
         self.line = []
         self.mark = 0
         self.rests = False
+        self.rested = False
+        self.late = 0
 
 
 class Graph:
@@ -43,7 +48,7 @@ class Graph:
             self.connect(self.places[channels[k] - 1], self.places[channels[k + 1] - 1])
 
     def connect(self, origin, target):
-        channel = Channel(target)
+        channel = Channel(len(self.channels) + 1, target)
         origin.leaving.append(channel)
         target.coming.append(channel)
         self.channels.append(channel)
@@ -80,12 +85,16 @@ def time_of(kept):
     return kept[1]
 
 
+def by_time(held):
+    # What a place holds is in the order of coming, and sorted keeps that order among equal times.
+    return sorted(held, key=time_of)
+
+
 def go_up(place, mark):
     place.mark = mark
     due = [kept for kept in place.held if kept[1] < mark]
     place.held = [kept for kept in place.held if kept[1] >= mark]
-    # held is in the order of coming, and sorted keeps that order among equal times.
-    for kept in sorted(due, key=time_of):
+    for kept in by_time(due):
         hand_on(place, kept[0], kept[1])
     # The mark comes last: behind it, what was due would be late further on.
     put(place, (MARK, mark + place.lift))
@@ -102,9 +111,11 @@ def look_at_channels(place):
             go_up(place, least)
 
 
-def take_element(place, number, time):
+def take_element(channel, number, time):
     """Answers 0 if the element is late, else 1."""
+    place = channel.target
     if time < place.mark:
+        channel.late += 1
         return 0
     if place.kind == HOLDS_BACK:
         place.held.append((number, time))
@@ -117,11 +128,12 @@ def take_first(channel):
     """Takes what is first on a channel that is not empty; answers the item, behind an element also 0 or 1."""
     item = channel.line.pop(0)
     if item[0] == ELEMENT:
-        return list(item) + [take_element(channel.target, item[1], item[2])]
+        return list(item) + [take_element(channel, item[1], item[2])]
     if item[0] == MARK:
         channel.mark = max(channel.mark, item[1])
     else:
         channel.rests = item[0] == RESTS
+        channel.rested = channel.rested or channel.rests
     look_at_channels(channel.target)
     return list(item)
 

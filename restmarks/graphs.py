@@ -1,6 +1,6 @@
 """The calls on one graph: how they are read from a list of numbers, what they refuse and answer."""
 
-from restmarks.flow import Graph, fall_to_rest, hand_on, put, take_first, take_round, wake_up, MARK
+from restmarks.flow import Graph, by_time, fall_to_rest, hand_on, put, take_first, take_round, wake_up, MARK
 
 GRAPH_CALL = 0
 EMIT_CALL = 1
@@ -8,6 +8,11 @@ MARK_CALL = 2
 REST_CALL = 3
 TAKE_CALL = 4
 TURNS_CALL = 5
+PLACE_CALL = 6
+HELD_CALL = 7
+TAPE_CALL = 8
+CHANNEL_CALL = 9
+INPUTS_CALL = 10
 
 MOST_PLACES = 8
 MOST_CHANNELS = 16
@@ -76,10 +81,16 @@ def begin_graph(line, places, channels):
     return len(channels) // 2
 
 
+def has_place(graph, p):
+    return p >= 1 and p <= len(graph.places)
+
+
+def has_channel(graph, c):
+    return c >= 1 and c <= len(graph.channels)
+
+
 def is_source(graph, p):
-    if p < 1 or p > len(graph.places):
-        return False
-    return len(graph.places[p - 1].coming) == 0
+    return has_place(graph, p) and len(graph.places[p - 1].coming) == 0
 
 
 def time_refusal(graph, p, time):
@@ -123,7 +134,7 @@ def rest(graph, p):
 
 def take(graph, c):
     """Answers a list: the item with what is behind it, or the refusal alone."""
-    if c < 1 or c > len(graph.channels):
+    if not has_channel(graph, c):
         return [-1]
     channel = graph.channels[c - 1]
     if len(channel.line) == 0:
@@ -138,6 +149,43 @@ def take_turns(graph, n):
     for k in range(n):
         taken += take_round(graph)
     return taken
+
+
+def tell_rows(rows):
+    """Answers how many rows there are, then the numbers of each."""
+    told = [len(rows)]
+    for row in rows:
+        told.extend(row)
+    return told
+
+
+def tell_place(place):
+    late = sum([channel.late for channel in place.coming])
+    return [place.mark, int(place.rests), len(place.held), late]
+
+
+def tell_input(channel):
+    return [channel.number, channel.mark, int(channel.rests), int(channel.rested), channel.late]
+
+
+def tell_of_place(graph, number, p):
+    """Answers what place, held, tape or inputs, whichever has this number, tells of place p."""
+    if not has_place(graph, p):
+        return [-1]
+    place = graph.places[p - 1]
+    if number == PLACE_CALL:
+        return tell_place(place)
+    if number == HELD_CALL:
+        return tell_rows(by_time(place.held))
+    if number == TAPE_CALL:
+        return tell_rows(place.tape)
+    return tell_rows([tell_input(channel) for channel in place.coming])
+
+
+def tell_channel(graph, c):
+    if not has_channel(graph, c):
+        return [-1]
+    return tell_rows(graph.channels[c - 1].line)
 
 
 def call_length(calls, at):
@@ -165,6 +213,10 @@ def answer_call(line, call):
         return take(line.graph, call[1])
     if call[0] == TURNS_CALL:
         return [take_turns(line.graph, call[1])]
+    if call[0] == CHANNEL_CALL:
+        return tell_channel(line.graph, call[1])
+    if call[0] in (PLACE_CALL, HELD_CALL, TAPE_CALL, INPUTS_CALL):
+        return tell_of_place(line.graph, call[0], call[1])
     number = call[0]
     raise UnknownCall(f"no call has the number {number}")
 

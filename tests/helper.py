@@ -27,6 +27,36 @@ def turns(n):
     return [5, n]
 
 
+def place(p):
+    return [6, p]
+
+
+def held(p):
+    return [7, p]
+
+
+def tape(p):
+    return [8, p]
+
+
+def channel(c):
+    return [9, c]
+
+
+def inputs(p):
+    return [10, p]
+
+
+def through(kind, lift):
+    """Source 1 by channel 1 to place 2 of this sort, and from it by channel 2 to place 3."""
+    return graph([0, 0, kind, lift, 0, 0], [1, 2, 2, 3])
+
+
+def joining(kind, lift):
+    """Sources 1, 2, 3 by channels 1, 2, 3 to place 4 of this sort; channel 4 from it to place 5."""
+    return graph([0, 0, 0, 0, 0, 0, kind, lift, 0, 0], [1, 4, 2, 4, 3, 4, 4, 5])
+
+
 def joined(calls):
     return [number for call in calls for number in call]
 
@@ -46,6 +76,8 @@ def cut(told):
 
 def ask(*calls):
     """The answer of each call, as a list, of one line of calls."""
+    if len(calls) > 60:
+        raise AssertionError(f"{len(calls)} calls are more than a line has")
     parts = cut(answers(joined(calls)))
     if len(parts) != len(calls):
         raise AssertionError(f"{len(calls)} calls, {len(parts)} answers")

@@ -2,8 +2,7 @@
 
 import unittest
 
-from restmarks.graphs import Line
-from tests.helper import ask, drained, emit, graph, last, mark, rest, take, turns
+from tests.helper import ask, drained, emit, graph, held, last, mark, rest, take, tape, turns
 
 MOST = 4294967295
 
@@ -40,8 +39,7 @@ class Taken(unittest.TestCase):
         self.assertEqual(ask(*calls)[4:], [[2, 10], [2, 7], [1, 1, 10, 1], [1, 2, 7, 1]])
 
     def test_place_3_at_the_beginning_passes_on(self):
-        # No channel leaves it, so no call of these shows it.
-        self.assertEqual([(place.kind, place.lift) for place in Line().graph.places], [(0, 0)] * 3)
+        self.assertEqual(ask(emit(1, 5), emit(2, 3), turns(1), tape(3), held(3))[3:], [[2, 1, 5, 2, 3], [0]])
 
 
 class RefusedPlaces(unittest.TestCase):

@@ -2,19 +2,7 @@
 
 import unittest
 
-from restmarks.flow import Graph, take_first
-from restmarks.graphs import emit as emit_at, give_mark
-from tests.helper import ask, drained, emit, graph, mark, rest, take, turns
-
-
-def through(kind, lift):
-    """Source 1 by channel 1 to place 2 of this sort, and from it by channel 2 to place 3."""
-    return graph([0, 0, kind, lift, 0, 0], [1, 2, 2, 3])
-
-
-def joining(kind, lift):
-    """Sources 1, 2, 3 by channels 1, 2, 3 to place 4 of this sort; channel 4 from it to place 5."""
-    return graph([0, 0, 0, 0, 0, 0, kind, lift, 0, 0], [1, 4, 2, 4, 3, 4, 4, 5])
+from tests.helper import ask, drained, emit, graph, joining, mark, rest, take, through, turns
 
 
 class PassesOn(unittest.TestCase):
@@ -192,21 +180,6 @@ class LooksAtItsChannels(unittest.TestCase):
         self.assertEqual(drained(4, *calls, take(1), take(1), take(2), take(2)), [[2, 5], [3]])
         calls = [graph([0, 0] * 4, [1, 2, 2, 3, 1, 3, 3, 4]), mark(1, 5), take(3), take(1), take(2)]
         self.assertEqual(drained(4, *calls), [[2, 5]])
-
-
-class Tape(unittest.TestCase):
-    def test_as_handed_on(self):
-        made = Graph([0, 0, 1, 7, 2, 0], [1, 2, 2, 3])
-        emit_at(made, 1, 9)
-        emit_at(made, 1, 4)
-        give_mark(made, 1, 4)
-        for channel in made.channels:
-            while channel.line:
-                take_first(channel)
-        self.assertEqual(made.places[0].tape, [(1, 9), (2, 4)])
-        self.assertEqual(made.places[1].tape, [(1, 16), (2, 11)])
-        self.assertEqual(made.places[2].tape, [])
-        self.assertEqual(made.places[2].held, [(1, 16), (2, 11)])
 
 
 if __name__ == "__main__":
